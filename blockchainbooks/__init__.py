@@ -1,0 +1,1 @@
+"""A chain of blocks: orders, contracts, forks, votes and nodes."""
