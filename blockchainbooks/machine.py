@@ -202,5 +202,5 @@ def run_call(state, call, gas):
     while run.ended is None:
         step(run)
     if run.ended == DONE:
-        state.become(tried)
+        state.take_over(tried)
     return run

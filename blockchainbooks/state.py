@@ -39,13 +39,9 @@ class State:
             other.slots[contract] = dict(self.slots[contract])
         return other
 
-    # The other one must not be used any more: what it has is taken over, not copied.
-    def become(self, other):
+    # For a twin on which a call was tried, and that isn't used any more: a call changes nothing else.
+    def take_over(self, other):
         self.money = other.money
-        self.turns = other.turns
-        self.held = other.held
-        self.burnt = other.burnt
-        self.codes = other.codes
         self.slots = other.slots
 
     # Answers whether it could be moved; if not, nothing was.
