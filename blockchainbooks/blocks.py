@@ -76,6 +76,14 @@ def orders_to_take(pool, orders, state, maker):
     return taken
 
 
+# Ends with block 0.
+def chain_down(blocks, number):
+    chain = [number]
+    while chain[-1] != 0:
+        chain.append(blocks[chain[-1]].below)
+    return chain
+
+
 # A block stands on itself here, too.
 def stands_on(blocks, upper, lower):
     at = upper

@@ -1,7 +1,8 @@
 """The books: all orders, blocks, votes and nodes of one world."""
 
 from blockchainbooks.blocks import block_on, first_block
-from blockchainbooks.nodes import Node, head_on, root_of
+from blockchainbooks.nodes import Node, head_on, heard_votes, root_of
+from blockchainbooks.votes import lasting_posts, standing_posts
 
 
 class Books:
@@ -26,8 +27,17 @@ class Books:
         self.given[(vote.validator, vote.source, vote.target)] = True
         return len(self.votes) - 1
 
+    def has_block(self, number):
+        return number < len(self.blocks)
+
     def has_vote(self, validator, source, target):
         return (validator, source, target) in self.given
+
+    def node_standing(self, node):
+        return standing_posts(heard_votes(self.nodes[node], self.votes))
+
+    def node_lasting(self, node):
+        return lasting_posts(self.blocks, heard_votes(self.nodes[node], self.votes))
 
     def node_root(self, node):
         return root_of(self.nodes[node], self.blocks, self.votes)

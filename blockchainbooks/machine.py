@@ -84,8 +84,11 @@ def do_read_slot(run, taken):
     run.put(run.state.slots[run.call.contract].get(taken[0], 0))
 
 
+# Taken out first, so that the slots lie in the order in which they were put last.
 def do_write_slot(run, taken):
-    run.state.slots[run.call.contract][taken[1]] = taken[0]
+    slots = run.state.slots[run.call.contract]
+    slots.pop(taken[1], None)
+    slots[taken[1]] = taken[0]
 
 
 def do_caller(run, taken):

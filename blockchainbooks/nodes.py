@@ -16,8 +16,12 @@ class Node:
         self.pool = [order for order in self.pool if order not in orders]
 
 
+def heard_votes(node, votes):
+    return [votes[number] for number in node.votes]
+
+
 def root_of(node, blocks, votes):
-    standing = standing_posts([votes[number] for number in node.votes])
+    standing = standing_posts(heard_votes(node, votes))
     return highest(blocks, [post for post in standing if post in node.blocks])
 
 

@@ -1,4 +1,4 @@
-"""Votes: which there can be, which are against one another, and which posts stand by them."""
+"""Votes: which there can be, which are against one another, and which posts stand and last by them."""
 
 from blockchainbooks.blocks import stands_on
 
@@ -36,6 +36,16 @@ def against_one_another(blocks, one, other):
     return surrounds(blocks, one, other) or surrounds(blocks, other, one)
 
 
+# By their numbers, the earlier one first; None if the validator has no such two.
+def first_two_against(blocks, votes, validator):
+    own = [number for number in range(len(votes)) if votes[number].validator == validator]
+    for later in own:
+        for earlier in own:
+            if earlier < later and against_one_another(blocks, votes[earlier], votes[later]):
+                return (earlier, later)
+    return None
+
+
 # The pairs of source and target for which enough validators voted; no validator gives a vote twice.
 def strong_links(votes):
     counts = {}
@@ -45,6 +55,7 @@ def strong_links(votes):
     return [link for link in counts if counts[link] >= ENOUGH_VOTES]
 
 
+# In the order in which they come to stand: step by step from block 0, within a step by their numbers.
 def standing_posts(votes):
     links = strong_links(votes)
     standing = [0]
@@ -54,3 +65,14 @@ def standing_posts(votes):
         latest = sorted(set([post for post in reached if post not in standing]))
         standing.extend(latest)
     return standing
+
+
+def leads_to_next_post(blocks, links, post):
+    steps = [blocks[link[1]].height - blocks[post].height for link in links if link[0] == post]
+    return POST_EVERY in steps
+
+
+# In the order in which they come to stand, too.
+def lasting_posts(blocks, votes):
+    links = strong_links(votes)
+    return [post for post in standing_posts(votes) if post == 0 or leads_to_next_post(blocks, links, post)]

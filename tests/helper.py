@@ -37,6 +37,38 @@ def head(node):
     return [7, node]
 
 
+def block(number):
+    return [8, number]
+
+
+def world(number):
+    return [9, number]
+
+
+def contract(number, account):
+    return [10, number, account]
+
+
+def chain(number):
+    return [11, number]
+
+
+def posts(node):
+    return [12, node]
+
+
+def blame():
+    return [13]
+
+
+def orderof(number):
+    return [14, number]
+
+
+def counts():
+    return [15]
+
+
 def split(told):
     """The answers, call by call."""
     parts = []
@@ -49,7 +81,31 @@ def split(told):
 
 def ask_all(calls):
     """The answers to these calls, about one new world."""
+    assert 1 <= len(calls) <= 100, len(calls)
     return split(answers([number for call in calls for number in call]))
+
+
+class World:
+    """What the call world answers, taken apart."""
+
+    def __init__(self, answer):
+        accounts = answer[0]
+        self.money = answer[1:1 + accounts]
+        rest = answer[1 + accounts:]
+        assert len(rest) == 12, answer
+        self.turns = rest[:6]
+        self.held = rest[6:10]
+        self.burnt = rest[10]
+        self.contracts = rest[11]
+
+    def all_money(self):
+        return sum(self.money) + sum(self.held) + self.burnt
+
+
+def endings_told(answer):
+    """What the call block answers of how each order ended."""
+    told = answer[5 + answer[4]:]
+    return [tuple(told[at:at + 3]) for at in range(0, len(told), 3)]
 
 
 class Scene:
@@ -86,34 +142,33 @@ class Scene:
     def would_fit(self, block, probe):
         return self.peek(probe, force(block, 1, [self.orders]))[1] == 1
 
-    def turn(self, block, person):
-        """The number of the person's order that's next, behind that block."""
-        for number in range(100):
-            if self.would_fit(block, order(person, number, 0, person, 0, 10, 0)):
-                return number
-        raise AssertionError("no order fits")
+    def world(self, number):
+        """The state behind that block."""
+        return World(self.peek(world(number)))
 
-    def money(self, block, person):
-        """The person's money behind that block (5000 at most can be seen)."""
-        number = self.turn(block, person)
-        low = 0
-        high = 5000
-        while low < high:
-            middle = (low + high + 1) // 2
-            gas = max(10, (middle - 1000 + 19) // 20)
-            price = 20 if middle > 1000 else 0
-            probe = order(person, number, 0, person, middle - gas * price, gas, price)
-            if self.would_fit(block, probe):
-                low = middle
-            else:
-                high = middle - 1
-        return low
+    def turn(self, number, person):
+        """The number of the person's order that's next, behind that block."""
+        return self.world(number).turns[person - 1]
+
+    def money(self, number, account):
+        return self.world(number).money[account - 1]
+
+    def slots(self, number, account):
+        """The contract's slots behind that block, each with what it holds."""
+        answer = self.peek(contract(number, account))
+        told = answer[1 + answer[0]:]
+        assert len(told) == 1 + 2 * told[0], answer
+        return list(zip(told[1::2], told[2::2]))
+
+    def endings(self, number):
+        """How each order of that block ended."""
+        return endings_told(self.peek(block(number)))
 
 
 class Trial:
     """Contract 7 has the code and some money; person 2 calls it at price 1; maker 6 gets the gas.
 
-    Tells how much gas was used, whether the call was done, and what persons 4 and 5 got.
+    Tells how it ended, how much gas was used, whether the call was done, and what persons 4 and 5 got.
     Further contracts, 8 and on, are pairs of code and money.
     """
 
@@ -127,6 +182,8 @@ class Trial:
         self.used = self.scene.money(self.behind, 6) - 1000
         self.lost = 1000 - self.used - self.scene.money(self.behind, 2)
         self.done = self.lost == value
+        self.ending = self.scene.endings(self.behind)[0]
+        assert (self.ending[0] == 0, self.ending[2]) == (self.done, self.used), self.ending
         self.paid = self.scene.money(self.behind, 5) - 1000
         self.paid_4 = self.scene.money(self.behind, 4) - 1000
 

@@ -12,6 +12,9 @@ ENOUGH = {
     12: [39], 13: [1, 39], 14: [5, 1], 15: [9, 0, 0], 16: [], 17: [3], 18: [], 19: [3], 20: [3, 4], 21: [3],
 }
 
+# How those end, and with what, that end otherwise than done with 0 then.
+ENDS = {16: (1, 0), 17: (0, 3)}
+
 
 def pushes(numbers):
     code = []
@@ -30,24 +33,22 @@ class EachInstructionTest(unittest.TestCase):
         for instruction, numbers in ENOUGH.items():
             with self.subTest(instruction=instruction):
                 trial = Trial(with_instruction(instruction, numbers))
-                self.assertEqual(trial.done, instruction != 16)
-                self.assertEqual(trial.used, 10 + len(numbers) + COST.get(instruction, 1))
+                used = 10 + len(numbers) + COST.get(instruction, 1)
+                self.assertEqual(trial.ending, ENDS.get(instruction, (0, 0)) + (used,))
 
     def test_with_less_on_the_stack(self):
         for instruction, numbers in ENOUGH.items():
             for many in range(len(numbers)):
                 with self.subTest(instruction=instruction, many=many):
                     trial = Trial(with_instruction(instruction, numbers[len(numbers) - many:]))
-                    self.assertFalse(trial.done)
-                    self.assertEqual(trial.used, 10 + many + COST.get(instruction, 1))
+                    self.assertEqual(trial.ending, (2, 0, 10 + many + COST.get(instruction, 1)))
 
     def test_with_just_enough_gas(self):
         for instruction, numbers in ENOUGH.items():
             with self.subTest(instruction=instruction):
                 gas = 10 + len(numbers) + COST.get(instruction, 1)
                 trial = Trial(with_instruction(instruction, numbers), gas=gas)
-                self.assertEqual(trial.done, instruction != 16)
-                self.assertEqual(trial.used, gas)
+                self.assertEqual(trial.ending, ENDS.get(instruction, (0, 0)) + (gas,))
 
     def test_with_less_gas(self):
         for instruction, numbers in ENOUGH.items():
@@ -55,15 +56,13 @@ class EachInstructionTest(unittest.TestCase):
                 with self.subTest(instruction=instruction, lack=lack):
                     gas = 10 + len(numbers) + COST.get(instruction, 1) - lack
                     trial = Trial(with_instruction(instruction, numbers), gas=gas)
-                    self.assertFalse(trial.done)
-                    self.assertEqual(trial.used, gas)
+                    self.assertEqual(trial.ending, (3, 0, gas))
 
     def test_none_of_these(self):
         for instruction in (22, 23, 100, 999999):
-            trial = Trial([instruction])
-            self.assertEqual((trial.done, trial.used), (False, 11))
-            trial = Trial(pushes([1, 1, 1]) + [instruction])
-            self.assertEqual((trial.done, trial.used), (False, 14))
+            self.assertEqual(Trial([instruction]).ending, (2, 0, 11))
+            self.assertEqual(Trial(pushes([1, 1, 1]) + [instruction]).ending, (2, 0, 14))
+            self.assertEqual(Trial([instruction], gas=10).ending, (3, 0, 10))
 
 
 class NumbersTest(unittest.TestCase):
